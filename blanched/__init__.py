@@ -1,0 +1,1 @@
+"""Washed and blanched: batches, and how long they are heated."""
