@@ -3,7 +3,9 @@
 from blanched.changes import add_batch, add_warmth, begin_anew, heat_batch, heat_enough, mix_batches
 from blanched.changes import pack_batch, sieve_batch, wash_batch
 from blanched.kitchen import Kitchen
-from blanched.looks import tell_alive, tell_best, tell_leaves, tell_need, tell_would
+from blanched.looks import tell_alive, tell_best, tell_half, tell_hotter, tell_leaves, tell_need, tell_would
+from blanched.measures import tell_done, tell_kilograms, tell_mean, tell_parts, tell_sizes
+from blanched.overview import tell_live, tell_of, tell_raw, tell_roots, tell_state, tell_sums
 from blanched.refusals import NOT_BEGUN
 
 BEGIN = 0
@@ -20,9 +22,20 @@ WOULD = 10
 NEED = 11
 LEAVES = 12
 BEST = 13
+HOTTER = 14
+HALF = 15
+DONE = 16
+KG = 17
+SIZES = 18
+MEAN = 19
+PARTS = 20
+LIVE = 21
+OF = 22
+ROOTS = 23
+RAW = 24
+SUMS = 25
 
-# How many whole numbers stand behind each call's own, for all 27 calls, since before a begin each of them
-# answers -11. For batch these are waste and how many sizes follow.
+# How many whole numbers stand behind each call's own. For batch these are waste and how many sizes follow.
 WHOLE_NUMBERS = (1, 2, 2, 1, 2, 2, 3, 2, 1, 1, 3, 2, 2, 1, 2, 1, 1, 1, 1, 1, 2, 0, 1, 1, 0, 0, 0)
 
 
@@ -67,7 +80,37 @@ def answer_look(kitchen, call):
         return tell_leaves(kitchen, call[1], call[2])
     if number == BEST:
         return tell_best(kitchen, call[1])
-    raise NotImplementedError(f"call {number} is not written yet")
+    if number == HOTTER:
+        return tell_hotter(kitchen, call[1], call[2])
+    return tell_half(kitchen, call[1])
+
+
+def answer_measure(kitchen, call):
+    number = call[0]
+    if number == DONE:
+        return tell_done(kitchen, call[1])
+    if number == KG:
+        return tell_kilograms(kitchen, call[1])
+    if number == SIZES:
+        return tell_sizes(kitchen, call[1])
+    if number == MEAN:
+        return tell_mean(kitchen, call[1])
+    return tell_parts(kitchen, call[1], call[2])
+
+
+def answer_overview(kitchen, call):
+    number = call[0]
+    if number == LIVE:
+        return tell_live(kitchen)
+    if number == OF:
+        return tell_of(kitchen, call[1])
+    if number == ROOTS:
+        return tell_roots(kitchen, call[1])
+    if number == RAW:
+        return tell_raw(kitchen)
+    if number == SUMS:
+        return tell_sums(kitchen)
+    return tell_state(kitchen)
 
 
 def answer_call(kitchen, call):
@@ -76,7 +119,11 @@ def answer_call(kitchen, call):
         return [NOT_BEGUN]
     if number <= PACK:
         return answer_change(kitchen, call)
-    return answer_look(kitchen, call)
+    if number <= HALF:
+        return answer_look(kitchen, call)
+    if number <= PARTS:
+        return answer_measure(kitchen, call)
+    return answer_overview(kitchen, call)
 
 
 def answers(calls):

@@ -5,8 +5,8 @@ so that a refused call leaves all as it was.
 """
 
 from blanched.heating import LONGEST
-from blanched.kitchen import MILLION, Batch, Warmth, alive_after, green_after, has_batch, has_warmth
-from blanched.kitchen import is_little_enough, kilograms, seconds_needed
+from blanched.kitchen import MILLION, SIZE_COUNT, Batch, Warmth, alive_after, green_after, has_batch, has_warmth
+from blanched.kitchen import is_done, is_mesh, kilograms, seconds_needed
 from blanched.refusals import GONE_OR_UNWASHED, NO_SUCH, NO_WASTE, NOT_DONE, NOT_SO, OUT_OF_RANGE, TOO_MANY
 
 MOST_WARMTHS = 5
@@ -14,17 +14,13 @@ MOST_FIRSTS = 12
 MOST_BATCHES = 40
 MOST_LOST = 999
 MOST_KILOGRAMS = 10000
-SIZES = 5
 
 
 def begin_anew(kitchen, limit):
     if limit >= MILLION:
         return [OUT_OF_RANGE]
     kitchen.begun = True
-    kitchen.limit = limit
-    kitchen.warmths = []
-    kitchen.batches = []
-    kitchen.firsts = 0
+    kitchen.make_empty(limit)
     return [0]
 
 
@@ -38,7 +34,7 @@ def add_warmth(kitchen, kills, fades):
 
 
 def are_sizes(sizes):
-    return len(sizes) == SIZES and max(sizes) <= MOST_KILOGRAMS and sum(sizes) > 0
+    return len(sizes) == SIZE_COUNT and max(sizes) <= MOST_KILOGRAMS and sum(sizes) > 0
 
 
 def add_batch(kitchen, waste, sizes):
@@ -49,6 +45,7 @@ def add_batch(kitchen, waste, sizes):
     first = kitchen.firsts
     kitchen.firsts = first + 1
     kitchen.batches.append(Batch(waste, sizes, MILLION, MILLION, [first]))
+    kitchen.came += sum(sizes) + waste
     return [len(kitchen.batches) - 1, first]
 
 
@@ -62,6 +59,7 @@ def wash_batch(kitchen, b):
         return [NO_WASTE]
     waste = batch.waste
     batch.waste = 0
+    kitchen.washed += waste
     return [waste]
 
 
@@ -76,12 +74,12 @@ def part_of(batch, sizes):
 def sieve_batch(kitchen, b, m):
     if not has_batch(kitchen, b):
         return [NO_SUCH]
-    if m < 1 or m >= SIZES:
+    if not is_mesh(m):
         return [OUT_OF_RANGE]
     batch = kitchen.batches[b]
     if not is_usable(batch):
         return [GONE_OR_UNWASHED]
-    through = part_of(batch, batch.sizes[:m] + [0] * (SIZES - m))
+    through = part_of(batch, batch.sizes[:m] + [0] * (SIZE_COUNT - m))
     stays = part_of(batch, [0] * m + batch.sizes[m:])
     if kilograms(through) == 0 or kilograms(stays) == 0:
         return [NOT_SO]
@@ -94,7 +92,7 @@ def sieve_batch(kitchen, b, m):
 
 
 def mixture_of(one, other):
-    sizes = [one.sizes[k] + other.sizes[k] for k in range(SIZES)]
+    sizes = [one.sizes[k] + other.sizes[k] for k in range(SIZE_COUNT)]
     # Parts of one first batch may meet again: it is to be told once.
     roots = sorted(set(one.roots) | set(other.roots))
     return Batch(0, sizes, one.alive, one.green, roots)
@@ -159,7 +157,8 @@ def pack_batch(kitchen, b):
     batch = kitchen.batches[b]
     if batch.gone:
         return [GONE_OR_UNWASHED]
-    if batch.waste > 0 or not is_little_enough(kitchen, batch.alive):
+    if not is_done(kitchen, batch):
         return [NOT_DONE]
     batch.gone = True
+    kitchen.packed += kilograms(batch)
     return [kilograms(batch)]

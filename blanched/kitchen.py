@@ -1,8 +1,9 @@
-"""What one object keeps: its limit, its warmths and its batches."""
+"""What one object keeps: its limit, its warmths, its batches and its sums."""
 
 from blanched.heating import after_seconds, least_seconds
 
 MILLION = 1000000
+SIZE_COUNT = 5
 
 
 class Warmth:
@@ -24,14 +25,23 @@ class Batch:
 
 
 class Kitchen:
-    """Batches that are gone stay in the list: they are told still, and their numbers are not given again."""
+    """Batches that are gone stay in the list: they are told still, and their numbers are not given again.
+
+    Came, washed and packed are kilograms: all that ever came with its waste, the waste washed off, what was packed.
+    """
 
     def __init__(self):
         self.begun = False
-        self.limit = 0
+        self.make_empty(0)
+
+    def make_empty(self, limit):
+        self.limit = limit
         self.warmths = []
         self.batches = []
         self.firsts = 0
+        self.came = 0
+        self.washed = 0
+        self.packed = 0
 
 
 def has_batch(kitchen, b):
@@ -42,12 +52,20 @@ def has_warmth(kitchen, w):
     return w < len(kitchen.warmths)
 
 
+def is_mesh(m):
+    return 1 <= m < SIZE_COUNT
+
+
 def kilograms(batch):
     return sum(batch.sizes)
 
 
 def is_little_enough(kitchen, alive):
     return alive <= kitchen.limit
+
+
+def is_done(kitchen, batch):
+    return batch.waste == 0 and is_little_enough(kitchen, batch.alive)
 
 
 def seconds_needed(kitchen, b, w):

@@ -1,8 +1,11 @@
-"""The calls that only look (of point 3): they change nothing, and tell of batches that are gone too."""
+"""The calls that look at the heat (point 3): they change nothing, and tell of batches that are gone too."""
 
-from blanched.heating import LONGEST
-from blanched.kitchen import alive_after, green_after, has_batch, has_warmth, is_little_enough, seconds_needed
+from blanched.heating import LONGEST, least_seconds
+from blanched.kitchen import MILLION, alive_after, green_after, has_batch, has_warmth, is_little_enough
+from blanched.kitchen import seconds_needed
 from blanched.refusals import NO_SUCH, NOT_SO, OUT_OF_RANGE
+
+HALF_A_MILLION = 500000
 
 
 def tell_alive(kitchen, b):
@@ -54,3 +57,18 @@ def tell_best(kitchen, b):
     if best is None:
         return [NOT_SO]
     return best
+
+
+def tell_hotter(kitchen, v, w):
+    if not has_warmth(kitchen, v) or not has_warmth(kitchen, w):
+        return [NO_SUCH]
+    return [1 if kitchen.warmths[v].kills > kitchen.warmths[w].kills else 0]
+
+
+def tell_half(kitchen, w):
+    if not has_warmth(kitchen, w):
+        return [NO_SUCH]
+    seconds = least_seconds(MILLION, kitchen.warmths[w].kills, HALF_A_MILLION)
+    if seconds is None:
+        return [NOT_SO]
+    return [seconds]

@@ -7,6 +7,7 @@ NAMES = (
     "best", "hotter", "half", "done", "kg", "sizes", "mean", "parts", "live", "of", "roots", "raw", "sums", "state",
 )
 MOST = 4294967295
+MOST_CALLS = 256
 MILLION = 1000000
 
 
@@ -39,6 +40,8 @@ def parted(told):
 
 def tell(*calls):
     """The answers to a line, one list a call."""
+    if len(calls) > MOST_CALLS:
+        raise AssertionError(f"{len(calls)} calls are no line")
     parts = parted(answers(written(calls)))
     if len(parts) != len(calls):
         raise AssertionError(f"{len(calls)} calls, {len(parts)} answers")

@@ -1,4 +1,4 @@
-"""What holds, over many inputs: b to f, as far as the calls that are there can tell."""
+"""What holds, a to f, over many inputs."""
 
 import itertools
 import unittest
@@ -19,6 +19,10 @@ LOOKS = (
     *[("alive", b) for b in range(10)], *[("best", b) for b in range(10)],
     *[("would", b, w, s) for b in range(10) for w in (0, 1) for s in (0, 1, 600)],
     *[(name, b, w) for name in ("need", "leaves") for b in range(10) for w in (0, 1)],
+    *[(name, b) for name in ("done", "kg", "sizes", "mean", "roots") for b in range(10)],
+    *[("parts", b, 2) for b in range(10)], ("parts", 0, 0), ("parts", 0, 5), ("hotter", 0, 1), ("hotter", 1, 0),
+    ("hotter", 0, 9), ("half", 0), ("half", 2), ("half", 9), *[("of", r) for r in range(5)],
+    ("live",), ("raw",), ("sums",), ("state",),
 )
 # Each of these is refused wherever in LINE it stands.
 REFUSED = (
@@ -34,6 +38,19 @@ REFUSED_LAST = (
     *[("sieve", b, 2) for b in range(7)], *[("mix", b, 7) for b in range(7)], *[("heat", b, 0, 1) for b in range(7)],
     *[("enough", b, 0) for b in range(7)], ("pack", 8), ("heat", 8, 0, 1), ("enough", 8, 2), ("mix", 7, 8),
 )
+
+
+class AllThatCame(unittest.TestCase):
+    def test_is_washed_off_packed_or_there(self):
+        for end in range(1, len(LINE) + 1):
+            came, washed, there, packed = last(*LINE[:end], ("sums",))[1:]
+            self.assertEqual(came, washed + there + packed)
+
+    def test_there_are_the_kilograms_and_waste_of_those_that_are_live(self):
+        for end in range(1, len(LINE) + 1):
+            told = tell(*LINE[:end], ("sums",), ("live",))
+            weights = [last(*LINE[:end], ("kg", b)) for b in told[-1][1:]]
+            self.assertEqual(told[-2][3], sum(kilograms + waste for kilograms, waste in weights))
 
 
 class LeastTime(unittest.TestCase):
@@ -58,11 +75,11 @@ class LeastTime(unittest.TestCase):
     def test_enough_does_what_need_and_leaves_tell(self):
         for limit, kills in itertools.product(LIMITS, KILLS):
             line = (("begin", limit), ("warm", kills, 3), ("batch", 0, FIVE), ("need", 0, 0), ("leaves", 0, 0))
-            told = tell(*line, ("enough", 0, 0), ("pack", 0))
+            told = tell(*line, ("enough", 0, 0), ("done", 0), ("pack", 0))
             if told[3] == [-33]:
-                self.assertEqual(told[4:], [[-33], [-33], [-74]])
+                self.assertEqual(told[4:], [[-33], [-33], [0], [-74]])
             else:
-                self.assertEqual(told[4:], [told[4], told[3] + told[4], [15]])
+                self.assertEqual(told[4:], [told[4], told[3] + told[4], [1], [15]])
 
 
 class BestWarmth(unittest.TestCase):
@@ -78,7 +95,7 @@ class BestWarmth(unittest.TestCase):
 
 class Sieved(unittest.TestCase):
     def parts(self, order):
-        """What each size weighs when the meshes are used in this order."""
+        """What is told of each part when the meshes are used in this order."""
         line = [("begin", 0), ("batch", 0, [5, 40, 300, 2000, 10000])]
         held = [(0, 0, 5)]
         for m in order:
@@ -87,25 +104,23 @@ class Sieved(unittest.TestCase):
             new = last(*line)[0]
             held.remove((b, low, high))
             held.extend([(new, low, m), (new + 1, m, high)])
-        found = {}
-        for call, told in zip(line, tell(*line)):
-            if call[0] == "sieve":
-                found[told[0]] = told[1]
-                found[told[0] + 1] = told[2]
-        return {low: found[b] for b, low, high in held}
+        return {low: tell(*line, ("sizes", b), ("roots", b))[-2:] for b, low, high in held}
 
     def test_in_whatever_order(self):
+        weights = [5, 40, 300, 2000, 10000]
+        parts = {k: [[5] + [0] * k + [weights[k]] + [0] * (4 - k), [1, 0]] for k in range(5)}
         for order in itertools.permutations((1, 2, 3, 4)):
-            self.assertEqual(self.parts(order), {0: 5, 1: 40, 2: 300, 3: 2000, 4: 10000})
+            self.assertEqual(self.parts(order), parts)
 
     def test_mixed_again_as_it_was(self):
         line = (("begin", 0), ("warm", 9, 9), ("batch", 0, FIVE), ("heat", 0, 0, 5))
         for m, again in itertools.product((1, 2, 3, 4), repeat=2):
             whole = last(*line, ("sieve", 0, again))
-            told = tell(*line, ("sieve", 0, m), ("mix", 1, 2), ("sieve", 3, again), ("alive", 0), ("alive", 3))
+            told = tell(*line, ("sieve", 0, m), ("mix", 1, 2), ("sieve", 3, again))
             self.assertEqual(told[5], [3, 15])
             self.assertEqual(told[6][1:], whole[1:])
-            self.assertEqual(told[7], told[8])
+            for name in ("alive", "done", "kg", "sizes", "mean", "roots"):
+                self.assertEqual(last(*line, (name, 0)), last(*line, ("sieve", 0, m), ("mix", 1, 2), (name, 3)))
 
 
 class Heated(unittest.TestCase):
@@ -159,7 +174,7 @@ class ChangesNothing(unittest.TestCase):
             told = tell(*LINE, call, *LOOKS)
             refused = told.pop(len(LINE))
             self.assertTrue(len(refused) == 1 and refused[0] < 0, (call, refused))
-            self.assertEqual(told, plain, call)
+            self.assertTrue(told == plain, call)
 
     def test_too_many_changes_nothing(self):
         full = (("begin", 0), *[("warm", 500, k) for k in range(5)], *[("batch", 0, [1] * 5)] * 12)

@@ -1,4 +1,4 @@
-"""Of point 3: alive, would, need, leaves, best."""
+"""Point 3: alive, would, need, leaves, best, hotter, half."""
 
 import unittest
 
@@ -151,6 +151,59 @@ class Best(unittest.TestCase):
             ("best", 0), ("best", 3),
         )
         self.assertEqual(told[-2:], [[0, 19, 817900], [0, 20, 817900]])
+
+
+class Hotter(unittest.TestCase):
+    LINE = (("begin", 0), ("warm", 500, 999), ("warm", 501, 0), ("warm", 500, 0), ("warm", 999, 0), ("warm", 1, 0))
+
+    def test_kills_more(self):
+        kills = (500, 501, 500, 999, 1)
+        for v in range(5):
+            for w in range(5):
+                self.assertEqual(last(*self.LINE, ("hotter", v, w)), [1 if kills[v] > kills[w] else 0])
+
+    def test_one_less_alike_and_one_more(self):
+        for v, w, hotter in ((1, 0, 1), (0, 1, 0), (0, 2, 0), (2, 0, 0), (3, 3, 0), (3, 4, 1), (4, 3, 0)):
+            self.assertEqual(last(*self.LINE, ("hotter", v, w)), [hotter])
+
+    def test_no_such(self):
+        for v, w in ((5, 0), (0, 5), (5, 5), (MOST, 0), (0, MOST), (MOST, MOST)):
+            self.assertEqual(last(*self.LINE, ("hotter", v, w)), [-2])
+        self.assertEqual(last(("begin", 0), ("batch", 0, FIVE), ("hotter", 0, 0)), [-2])
+
+    def test_begin_again(self):
+        told = tell(*self.LINE, ("begin", 0), ("hotter", 1, 0), ("warm", 9, 0), ("hotter", 0, 0), ("hotter", 1, 0))
+        self.assertEqual(told[-4:], [[-2], [0], [0], [-2]])
+
+
+class Half(unittest.TestCase):
+    def test_first_seconds(self):
+        found = ((2, 347), (3, 231), (206, 4), (207, 3), (292, 3), (293, 2), (499, 2), (500, 1), (501, 1), (999, 1))
+        for kills, seconds in found:
+            self.assertEqual(last(("begin", 0), ("warm", kills, 0), ("half", 0)), [seconds], kills)
+
+    def test_not_within_600(self):
+        # After 600 seconds 548,416 of a million are alive still.
+        self.assertEqual(last(("begin", 0), ("warm", 1, 0), ("half", 0)), [-33])
+
+    def test_no_more_than_half_and_a_second_less_is_more(self):
+        for kills in range(2, 1000, 7):
+            line = (("begin", 0), ("warm", kills, 0), ("batch", 0, FIVE))
+            seconds = last(*line, ("half", 0))[0]
+            told = tell(*line, ("would", 0, 0, seconds), ("would", 0, 0, seconds - 1))
+            self.assertLessEqual(told[-2][0], 500000)
+            self.assertGreater(told[-1][0], 500000)
+
+    def test_of_a_million_whatever_limit_and_batches(self):
+        for limit in (0, 499999, 500000, 999999):
+            told = tell(("begin", limit), ("warm", 499, 999), ("warm", 1, 0), ("half", 0), ("half", 1),
+                        ("batch", 0, FIVE), ("heat", 0, 0, 3), ("half", 0), ("half", 1))
+            self.assertEqual((told[3:5], told[7:]), ([[2], [-33]], [[2], [-33]]))
+
+    def test_no_such(self):
+        for w in (1, 5, MOST):
+            self.assertEqual(last(("begin", 0), HALVES, ("batch", 0, FIVE), ("batch", 0, FIVE), ("half", w)), [-2])
+        self.assertEqual(last(("begin", 0), ("batch", 0, FIVE), ("half", 0)), [-2])
 
 
 if __name__ == "__main__":
